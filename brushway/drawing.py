@@ -5,14 +5,16 @@ from brushway.strokes import Stroke
 
 NO_PLACE = -1
 NO_VALUE = -2
+NO_PAIRS = -3
 NOT_NOW = -4
+NOTHING_LEFT = -5
 
 MOST_SIDE = 12
 MOST_UNDONE = 8
 
 
 class Drawing:
-    """One page with what belongs to it. Each call answers one number, below 0 if it's refused."""
+    """One page with what belongs to it. Each call that may change it answers one number, below 0 if it's refused."""
 
     def __init__(self):
         self.w = 1
@@ -83,3 +85,27 @@ class Drawing:
         given_up = self.stroke
         self.stroke = None
         return len(given_up.stamped)
+
+    def draw(self, points):
+        """The call draw; points are a column and a row for each, one behind another."""
+        if self.stroke is not None:
+            return NOT_NOW
+        if len(points) == 0 or len(points) % 2 == 1:
+            return NO_PAIRS
+        places = list(zip(points[0::2], points[1::2]))
+        # All points are looked at before the first is drawn: a refusal leaves no part of a stroke.
+        if not all([self.has_cell(x, y) for x, y in places]):
+            return NO_PLACE
+        self.begin(places[0][0], places[0][1])
+        for x, y in places[1:]:
+            self.go_on(x, y)
+        return self.lift()
+
+    def undo(self):
+        """The call undo."""
+        if self.stroke is not None:
+            return NOT_NOW
+        if len(self.earlier) == 0:
+            return NOTHING_LEFT
+        self.cells = self.earlier.pop()
+        return len(self.earlier)

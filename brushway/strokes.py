@@ -21,11 +21,11 @@ def images(x, y, w, h, mirror):
     return places
 
 
-def grown(m, g, build):
-    """What a cell with m has when it gets g."""
+def grown(mask, gives, build):
+    """What the cells with this mask have when each gets its g of gives."""
     if build == 1:
-        return m + (255 - m) * g // 255
-    return max(m, g)
+        return [m + (255 - m) * g // 255 for m, g in zip(mask, gives)]
+    return [m if m > g else g for m, g in zip(mask, gives)]
 
 
 def shown(v, m, brush):
@@ -46,18 +46,26 @@ class Stroke:
         self.steps = 0
         self.stamped = []
         self.mask = [0] * (w * h)
+        self.known = {}
         self.stamp()
 
     def stamp(self):
         """Stamp where the way is now."""
         self.stamped.append((self.x, self.y))
         for x, y in images(self.x, self.y, self.w, self.h, self.brush.mirror):
-            self.mask = [self.got(m, at, x, y) for at, m in enumerate(self.mask)]
+            self.mask = grown(self.mask, self.gives(x, y), self.brush.build)
 
-    def got(self, m, at, x, y):
-        """What the cell number at, which has m, has behind a stamp's image at (x, y)."""
+    def gives(self, x, y):
+        """g for each cell of the page, from a stamp's image at (x, y)."""
+        # A long stroke stamps thousands of times on few cells: what is worked out once is kept.
+        if (x, y) not in self.known:
+            self.known[(x, y)] = [self.strength_at(at, x, y) for at in range(len(self.mask))]
+        return self.known[(x, y)]
+
+    def strength_at(self, at, x, y):
+        """g for the cell number at, from a stamp's image at (x, y)."""
         d = (at % self.w - x) ** 2 + (at // self.w - y) ** 2
-        return grown(m, strength(self.brush, d), self.brush.build)
+        return strength(self.brush, d)
 
     def lead(self, x, y):
         """Let the way go on to (x, y)."""

@@ -27,16 +27,49 @@ def to(x, y):
     return [3, x, y]
 
 
+def draw(*points):
+    """The call draw; each of points is a column and a row."""
+    return draw_numbers([number for point in points for number in point])
+
+
+def draw_numbers(numbers):
+    return [6, len(numbers)] + list(numbers)
+
+
 UP = [4]
 CANCEL = [5]
+UNDO = [7]
+CELLS = [8]
+MASK = [9]
+STAMPS = [10]
+TOLD = [11]
+LOOKS = [CELLS, MASK, STAMPS, TOLD]
+
+
+def ask_all(*calls):
+    """The numbers that each call answers, a list for each."""
+    told = answers([number for call in calls for number in call])
+    lists = []
+    at = 0
+    while at < len(told):
+        lists.append(told[at + 1:at + 1 + told[at]])
+        at += 1 + told[at]
+    if at != len(told) or len(lists) != len(calls):
+        raise AssertionError(f"not one answer for each call: {told}")
+    return lists
+
+
+def ask_last(*calls):
+    """The numbers that the last call answers."""
+    return ask_all(*calls)[-1]
 
 
 def ask(*calls):
     """The one number that each call answers; fails if a count isn't 1."""
-    told = answers([number for call in calls for number in call])
-    if len(told) != 2 * len(calls) or any(count != 1 for count in told[::2]):
-        raise AssertionError(f"not one number for each call: {told}")
-    return told[1::2]
+    lists = ask_all(*calls)
+    if any(len(numbers) != 1 for numbers in lists):
+        raise AssertionError(f"not one number for each call: {lists}")
+    return [numbers[0] for numbers in lists]
 
 
 def state(drawing):

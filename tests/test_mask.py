@@ -80,9 +80,7 @@ class OneStamp(unittest.TestCase):
 
 class SeveralStamps(unittest.TestCase):
     def test_without_building_up_the_greater_counts(self):
-        self.assertEqual(grown(100, 99, 0), 100)
-        self.assertEqual(grown(99, 100, 0), 100)
-        self.assertEqual(grown(0, 0, 0), 0)
+        self.assertEqual(grown([100, 99, 0, 7], [99, 100, 0, 7], 0), [100, 100, 0, 7])
         self.assertEqual(made(3, 1, [(0, 0), (1, 0), (0, 0)], none=2), [255, 255, 127])
         self.assertEqual(made(1, 1, [(0, 0)] * 9, flow=50), [50])
 
@@ -94,13 +92,9 @@ class SeveralStamps(unittest.TestCase):
             self.assertEqual(there, back)
 
     def test_building_up(self):
-        self.assertEqual(grown(0, 128, 1), 128)
         # 127 * 128 / 255 = 63.7.., 64 * 128 / 255 = 32.1..
-        self.assertEqual(grown(128, 128, 1), 191)
-        self.assertEqual(grown(191, 128, 1), 223)
-        self.assertEqual(grown(255, 128, 1), 255)
-        self.assertEqual(grown(77, 0, 1), 77)
-        self.assertEqual(grown(77, 255, 1), 255)
+        self.assertEqual(grown([0, 128, 191, 255], [128] * 4, 1), [128, 191, 223, 255])
+        self.assertEqual(grown([77, 77], [0, 255], 1), [77, 255])
         self.assertEqual(made(2, 1, [(0, 0), (0, 0), (0, 0)], flow=128, build=1), [223, 0])
 
     def test_building_up_along_a_way(self):
